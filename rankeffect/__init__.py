@@ -1,0 +1,1 @@
+"""Rankeffect: what inserting and removing by rank does to every list."""

@@ -1,0 +1,32 @@
+"""Which objects are integers, counts, ranks and lists of these; every function accepts any object."""
+
+
+def is_integer(value):
+    """Return whether the value is an integer."""
+    # bool is a class of its own here, so True and False are no integers.
+    return type(value) == int
+
+
+def is_count(value):
+    """Return whether the value is a non-negative integer."""
+    return is_integer(value) and value >= 0
+
+
+def is_rank(value):
+    """Return whether the value is a positive integer."""
+    return is_integer(value) and value > 0
+
+
+def is_number_list(value):
+    """Return whether the value is a list or tuple of integers."""
+    return type(value) in (list, tuple) and all([is_integer(number) for number in value])
+
+
+def is_ascending(value):
+    """Return whether the value is a list or tuple of integers, each one greater than the one before."""
+    return is_number_list(value) and all([low < high for low, high in zip(value, value[1:])])
+
+
+def is_rank_list(value):
+    """Return whether the value is a list or tuple of ranks, each one greater than the one before."""
+    return is_ascending(value) and all([is_rank(number) for number in value])
