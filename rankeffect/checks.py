@@ -1,5 +1,8 @@
 """Which objects are integers, counts, ranks and lists of these; every function accepts any object."""
 
+# A list that would be longer is refused as a result where the document says so.
+MOST_ELEMENTS = 500
+
 
 def is_integer(value):
     """Return whether the value is an integer."""
@@ -17,9 +20,19 @@ def is_rank(value):
     return is_integer(value) and value > 0
 
 
+def is_times(value):
+    """Return whether the value is a number of repetitions: an integer from 0 to 10 ** 30."""
+    return is_count(value) and value <= 10 ** 30
+
+
 def is_number_list(value):
     """Return whether the value is a list or tuple of integers."""
     return type(value) in (list, tuple) and all([is_integer(number) for number in value])
+
+
+def is_count_list(value):
+    """Return whether the value is a list or tuple of counts."""
+    return is_number_list(value) and all([is_count(number) for number in value])
 
 
 def is_ascending(value):

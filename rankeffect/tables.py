@@ -21,12 +21,18 @@ def mapped(start, lost, count):
     return start + count - how_many_up_to(lost, count)
 
 
-def kept_ranks(lost, places):
-    """Return, for each place from 1, the rank that has it among the ranks that are not lost."""
-    # Below lost[index] there are lost[index] - 1 - index kept ranks, so it
-    # is below the kept rank at a place exactly if its bound is at most this place.
-    bounds = [rank - index for index, rank in enumerate(lost)]
-    return [place + how_many_up_to(bounds, place) for place in places]
+def kept_rank(lost, place):
+    """Return the rank that has this place, from 1, among the ranks that are not lost."""
+    # Below lost[index] there are lost[index] - 1 - index kept ranks, so it is
+    # below the kept rank at the place exactly if lost[index] - index is at most the place.
+    low, high = 0, len(lost)
+    while low < high:
+        middle = (low + high) // 2
+        if lost[middle] - middle <= place:
+            low = middle + 1
+        else:
+            high = middle
+    return place + low
 
 
 class Table:
@@ -59,7 +65,7 @@ class Table:
             raise InvalidNumber(count)
         if count <= self._start:
             return 0
-        return kept_ranks(self._lost, [count - self._start])[0]
+        return kept_rank(self._lost, count - self._start)
 
     def __call__(self, count):
         """Return what the count becomes."""
@@ -77,7 +83,6 @@ class Table:
         """The table that does what this one does and then what the other one does."""
         # The first table makes each of its kept ranks one of the ranks above its
         # start; what the second table loses of these, both together lose there.
-        places = [rank - self._start for rank in other._lost if rank > self._start]
-        found = kept_ranks(self._lost, places)
+        found = [kept_rank(self._lost, rank - self._start) for rank in other._lost if rank > self._start]
         start = mapped(other._start, other._lost, self._start)
         return Table(start, sorted([*self._lost, *found]))

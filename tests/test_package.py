@@ -10,7 +10,7 @@ import rankeffect
 PACKAGE = pathlib.Path(rankeffect.__file__).parent
 
 # Of each file of the interface: the classes, with the methods and properties that each one defines itself.
-INTERFACE = {
+CLASSES = {
     "errors.py": {
         "RankError": [], "InvalidList": ["__init__"], "InvalidStep": ["__init__"], "InvalidTable": ["__init__"],
         "InvalidEffect": ["__init__"], "InvalidNumber": ["__init__"], "InvalidFacts": ["__init__"],
@@ -24,6 +24,21 @@ INTERFACE = {
     "tables.py": {
         "Table": ["__init__", "start", "lost", "__call__", "__add__", "least", "growth", "__bool__", "__eq__"],
     },
+    "effects.py": {
+        "Effect": ["__init__", "of", "nothing", "breaks", "tables", "need", "growth", "table", "__call__", "__add__",
+                   "__mul__", "shifted", "__bool__", "__eq__"],
+    },
+    "repeating.py": {
+        "Repetition": ["__init__", "count", "loses", "lost_up_to", "nth_lost", "need", "growth", "__call__"],
+    },
+}
+# Of each file of the interface: the functions, with their parameters.
+FUNCTIONS = {
+    "comparing.py": {
+        "separating_list": ["first", "second"], "first_difference": ["first", "second"],
+        "is_separating": ["first", "second", "value"],
+    },
+    "results.py": {"kept": ["effect", "counts"], "kept_numbers": ["effect", "length"]},
 }
 
 
@@ -37,13 +52,20 @@ def parsed(path):
 
 class InterfaceTest(unittest.TestCase):
     def test_classes_stand_in_their_files(self):
-        for name, classes in INTERFACE.items():
+        for name, classes in CLASSES.items():
             found = {node.name: node for node in parsed(PACKAGE / name).body if isinstance(node, ast.ClassDef)}
             for class_name, methods in classes.items():
                 self.assertIn(class_name, found)
                 own = [node.name for node in found[class_name].body if isinstance(node, ast.FunctionDef)]
                 for method in methods:
                     self.assertIn(method, own, class_name)
+
+    def test_functions_stand_in_their_files(self):
+        for name, functions in FUNCTIONS.items():
+            found = {node.name: node for node in parsed(PACKAGE / name).body if isinstance(node, ast.FunctionDef)}
+            for function_name, parameters in functions.items():
+                self.assertIn(function_name, found)
+                self.assertEqual([argument.arg for argument in found[function_name].args.args], parameters)
 
 
 class LanguageTest(unittest.TestCase):
