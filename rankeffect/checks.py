@@ -1,4 +1,4 @@
-"""Which objects are integers, counts, ranks and lists of these; every function accepts any object."""
+"""Which objects are integers, counts, ranks, lists of these and names; every function accepts any object."""
 
 # A list that would be longer is refused as a result where the document says so.
 MOST_ELEMENTS = 500
@@ -30,6 +30,11 @@ def is_number_list(value):
     return type(value) in (list, tuple) and all([is_integer(number) for number in value])
 
 
+def is_list_of_lists(value):
+    """Return whether the value is a list or tuple of lists or tuples of integers."""
+    return type(value) in (list, tuple) and all([is_number_list(numbers) for numbers in value])
+
+
 def is_count_list(value):
     """Return whether the value is a list or tuple of counts."""
     return is_number_list(value) and all([is_count(number) for number in value])
@@ -43,3 +48,8 @@ def is_ascending(value):
 def is_rank_list(value):
     """Return whether the value is a list or tuple of ranks, each one greater than the one before."""
     return is_ascending(value) and all([is_rank(number) for number in value])
+
+
+def is_name(value):
+    """Return whether the value is a text of one to eight lowercase letters."""
+    return type(value) == str and 1 <= len(value) <= 8 and all(["a" <= sign <= "z" for sign in value])

@@ -35,7 +35,8 @@ def table_of(steps, threshold):
             # The ranks that are kept so far come after the start, in their order.
             place = number - start
             rank = kept_rank(lost, place)
-            lost.insert(rank - place, rank)
+            below = rank - place
+            lost[below:below] = [rank]
     return Table(start, lost)
 
 

@@ -31,6 +31,10 @@ CLASSES = {
     "repeating.py": {
         "Repetition": ["__init__", "count", "loses", "lost_up_to", "nth_lost", "need", "growth", "__call__"],
     },
+    "logs.py": {
+        "Log": ["__init__", "sequence", "effect", "authors", "insert", "add", "attempt", "remove", "undo", "redo"],
+    },
+    "console.py": {"Console": ["__init__", "run"]},
 }
 # Of each file of the interface: the functions, with their parameters.
 FUNCTIONS = {
@@ -39,6 +43,23 @@ FUNCTIONS = {
         "is_separating": ["first", "second", "value"],
     },
     "results.py": {"kept": ["effect", "counts"], "kept_numbers": ["effect", "length"]},
+    "removing.py": {
+        "old_rank": ["sequence", "repetition", "index"], "removal_of": ["sequence", "rank"],
+        "never_removed": ["sequence"],
+    },
+    "exchanging.py": {
+        "exchanged": ["sequence", "index"], "normal_form": ["sequence"], "is_connected": ["first", "second"],
+    },
+    "searching.py": {
+        "count_sequences": ["effect", "numbers", "ranks", "length"],
+        "first_sequence": ["effect", "numbers", "ranks", "most"],
+    },
+    "tops.py": {"resolved": ["length", "steps"]},
+    "observing.py": {"agreeing": ["sequences", "facts"], "best_list": ["sequences", "lists"]},
+    "formats.py": {
+        "format_sequence": ["sequence"], "format_effect": ["effect"], "parse_sequence": ["text"],
+        "parse_effect": ["text"], "effect_grid": ["effect"],
+    },
 }
 
 
